@@ -1,0 +1,1 @@
+"""The coils of a pinball table, tick by tick."""
